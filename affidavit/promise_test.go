@@ -1,0 +1,130 @@
+package affidavit
+
+import (
+	"reflect"
+	"slices"
+	"strings"
+	"testing"
+
+	"affidavit/api"
+)
+
+// tryText loads and tells a text, and holds the answers against
+// what is so of every text.
+func tryText(t *testing.T, text string) {
+	t.Helper()
+	p, e, at := Load(text)
+	if (p != nil) != (e == api.OK) {
+		t.Fatalf("P1: Load(%q): error %d, and a program: %v", text, e, p != nil)
+	}
+	if at < 0 || at > len(text) || at != 0 && e == api.OK {
+		t.Fatalf("P3: Load(%q): error %d, place %d", text, e, at)
+	}
+	if p == nil {
+		return
+	}
+	printed, strata := p.Print(), p.Strata()
+	if len(printed) > api.MaxText {
+		return
+	}
+	again := mustLoad(t, printed)
+	if again.Print() != printed || !slices.Equal(again.Strata(), strata) {
+		t.Fatalf("P4: %q loaded again is another program than %q", printed, text)
+	}
+}
+
+func TestNoTextPanics(t *testing.T) {
+	for a := range 256 {
+		for b := range 256 {
+			tryText(t, string([]byte{byte(a), byte(b)}))
+			tryText(t, "p"+string([]byte{byte(a), byte(b)}))
+			tryText(t, "p(X):-q(X)"+string([]byte{byte(a), byte(b)}))
+		}
+	}
+	for i := range example {
+		tryText(t, example[:i])
+		tryText(t, example[i:])
+		tryText(t, example[:i]+example[i+1:])
+		for c := range 256 {
+			tryText(t, example[:i]+string([]byte{byte(c)})+example[i+1:])
+			tryText(t, example[:i]+string([]byte{byte(c)})+example[i:])
+		}
+	}
+}
+
+// Rows of a few bytes that matter, all of them up to a length.
+func TestNoShortTextPanics(t *testing.T) {
+	const bytes = "pX(),. :-"
+	var walk func(text string)
+	walk = func(text string) {
+		tryText(t, text)
+		if len(text) == 5 {
+			return
+		}
+		for i := range len(bytes) {
+			walk(text + bytes[i:i+1])
+		}
+	}
+	walk("")
+}
+
+func TestWidestTexts(t *testing.T) {
+	for _, unit := range []string{"p.", "p:-q.", "p:-not q.", "p(", "p,", "p:-", "not ", "(", "X", "a", "p(a,a,a,a).", "p:-p,p,p.", "?"} {
+		for _, n := range []int{0, 1, 2, api.MaxRules, api.MaxRules + 1, api.MaxText / len(unit), api.MaxText/len(unit) + 1, 100000} {
+			tryText(t, strings.Repeat(unit, n))
+		}
+	}
+}
+
+// A program that never came out is no promise of the document, but no call
+// panics whatever it is given.
+func TestNoProgram(t *testing.T) {
+	var p *Program
+	if s := p.Print(); s != "" {
+		t.Errorf("P1: Print of no program = %q", s)
+	}
+	if l := p.Strata(); len(l) != 0 {
+		t.Errorf("P1: Strata of no program = %+v", l)
+	}
+}
+
+func TestNothingHangsOnCallsBefore(t *testing.T) {
+	first := mustLoad(t, example)
+	printed, strata := first.Print(), first.Strata()
+	other := mustLoad(t, "edge :- not path. path.")
+	wantLoad(t, "far(a,b,c", api.ErrSyntax, 9)
+	wantLoad(t, "far. far(a).", api.ErrArity, 5)
+	other.Print()
+	other.Strata()
+	if first.Print() != printed || !slices.Equal(first.Strata(), strata) {
+		t.Error("P1: a program tells other things than before")
+	}
+	if second := mustLoad(t, example); !reflect.DeepEqual(first, second) {
+		t.Error("P1: a text loaded twice makes two kinds of program")
+	}
+	for range 50 {
+		if !slices.Equal(first.Strata(), strata) {
+			t.Fatal("P1: Strata tells other things than before")
+		}
+	}
+}
+
+func TestListsAreNewMemory(t *testing.T) {
+	p := mustLoad(t, example)
+	want := slices.Clone(p.Strata())
+	one, two := p.Strata(), p.Strata()
+	room := one[:cap(one)]
+	for i := range room {
+		room[i] = api.Stratum{Name: "x", Stratum: 7, Terms: 7}
+	}
+	if !slices.Equal(two, want) {
+		t.Error("P2: two lists of strata share memory")
+	}
+	if !slices.Equal(p.Strata(), want) {
+		t.Error("P2: a program keeps a list that it has handed out")
+	}
+	_ = append(two[:len(two):cap(two)], one...)
+	if got := p.Strata(); !slices.Equal(got, want) {
+		t.Errorf("P2: Strata = %+v, want %+v", got, want)
+	}
+}
