@@ -3,6 +3,7 @@ package affidavit
 
 import (
 	"affidavit/api"
+	"affidavit/follow"
 	"affidavit/read"
 	"affidavit/rule"
 	"affidavit/sound"
@@ -44,7 +45,30 @@ func (p *Program) Print() string { return rule.Write(p.list()) }
 func (p *Program) Strata() []api.Stratum { return strata.Of(p.list()).List() }
 
 // Query tells what follows (P6).
-func (p *Program) Query(atom string, limit int) ([]string, api.Errno) { return nil, api.OK }
+func (p *Program) Query(atom string, limit int) ([]string, api.Errno) {
+	table := strata.Of(p.list())
+	asked, e := readAsked(atom, limit, table)
+	if e != api.OK {
+		return nil, e
+	}
+	known, ok := follow.Of(p.list(), table, limit)
+	if !ok {
+		return nil, api.ErrLimit
+	}
+	return known.Matching(asked), api.OK
+}
+
+// readAsked reads what is asked of a program with these predicates.
+func readAsked(atom string, limit int, table strata.Table) (rule.Atom, api.Errno) {
+	if limit < 1 || limit > api.MaxAtoms {
+		return rule.Atom{}, api.ErrArg
+	}
+	asked, ok := read.Atom(atom)
+	if !ok || !table.Suits(asked) {
+		return rule.Atom{}, api.ErrAsk
+	}
+	return asked, api.OK
+}
 
 // Explain tells why something follows, or does not (P7).
 func (p *Program) Explain(thing string, limit int) (api.Why, api.Errno) { return api.Why{}, api.OK }

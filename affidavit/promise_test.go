@@ -23,6 +23,12 @@ func tryText(t *testing.T, text string) {
 	if p == nil {
 		return
 	}
+	for _, limit := range []int{1, api.MaxAtoms} {
+		l, e := p.Query("p(X)", limit)
+		if len(l) != 0 && e != api.OK || len(l) > limit {
+			t.Fatalf("P6: of %q Query = %q, %d", text, l, e)
+		}
+	}
 	printed, strata := p.Print(), p.Strata()
 	if len(printed) > api.MaxText {
 		return
@@ -86,12 +92,16 @@ func TestNoProgram(t *testing.T) {
 	if l := p.Strata(); len(l) != 0 {
 		t.Errorf("P1: Strata of no program = %+v", l)
 	}
+	wantQuery(t, p, "p(X)", 1, "")
+	wantRefused(t, p, "p(", 1, api.ErrAsk)
 }
 
 func TestNothingHangsOnCallsBefore(t *testing.T) {
 	first := mustLoad(t, example)
 	printed, strata := first.Print(), first.Strata()
 	other := mustLoad(t, "edge :- not path. path.")
+	wantQuery(t, other, "path", api.MaxAtoms, "path")
+	wantRefused(t, first, "path(X,Y)", 1, api.ErrLimit)
 	wantLoad(t, "far(a,b,c", api.ErrSyntax, 9)
 	wantLoad(t, "far. far(a).", api.ErrArity, 5)
 	other.Print()
@@ -103,6 +113,9 @@ func TestNothingHangsOnCallsBefore(t *testing.T) {
 		t.Error("P1: a text loaded twice makes two kinds of program")
 	}
 	for range 50 {
+		wantQuery(t, first, "path(X,Y)", api.MaxAtoms, "path(a,b) path(a,c) path(b,c)")
+		wantQuery(t, first, "far(X)", 6, "far(c)")
+		wantQuery(t, other, "edge", api.MaxAtoms, "")
 		if !slices.Equal(first.Strata(), strata) {
 			t.Fatal("P1: Strata tells other things than before")
 		}
@@ -126,5 +139,35 @@ func TestListsAreNewMemory(t *testing.T) {
 	_ = append(two[:len(two):cap(two)], one...)
 	if got := p.Strata(); !slices.Equal(got, want) {
 		t.Errorf("P2: Strata = %+v, want %+v", got, want)
+	}
+}
+
+func TestAnswersAreNewMemory(t *testing.T) {
+	p := mustLoad(t, example)
+	const want = "path(a,b) path(a,c) path(b,c)"
+	one, _ := p.Query("path(X,Y)", api.MaxAtoms)
+	two, _ := p.Query("path(X,Y)", api.MaxAtoms)
+	room := one[:cap(one)]
+	for i := range room {
+		room[i] = "x"
+	}
+	if strings.Join(two, " ") != want {
+		t.Error("P2: two answers share memory")
+	}
+	wantQuery(t, p, "path(X,Y)", api.MaxAtoms, want)
+}
+
+func TestNoQuestionPanics(t *testing.T) {
+	p := mustLoad(t, example)
+	for a := range 256 {
+		for b := range 256 {
+			for _, ahead := range []string{"", "far", "far(", "far(c"} {
+				atom := ahead + string([]byte{byte(a), byte(b)})
+				l, e := p.Query(atom, api.MaxAtoms)
+				if e != api.OK && e != api.ErrAsk || e == api.ErrAsk && len(l) != 0 {
+					t.Fatalf("P6: Query(%q) = %q, %d", atom, l, e)
+				}
+			}
+		}
 	}
 }

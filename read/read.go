@@ -52,6 +52,16 @@ func Rules(text string) (Text, int, bool) {
 	return Text{Rules: rules, Mentions: r.mentions}, 0, true
 }
 
+// Atom reads a text that is one atom and nothing else.
+func Atom(text string) (rule.Atom, bool) {
+	r := &reader{text: text, now: scan(text, 0)}
+	a, ok := r.atom(false, r.now.from)
+	if !ok || r.now.kind != end {
+		return rule.Atom{}, false
+	}
+	return a, true
+}
+
 // take goes on to the next token, if this one is of the kind.
 func (r *reader) take(k kind) bool {
 	if r.now.kind != k {

@@ -73,3 +73,19 @@ func TestRulesFault(t *testing.T) {
 		t.Errorf("Rules = %+v, %d, %v, want nothing, 17, false", got, place, ok)
 	}
 }
+
+func TestAtom(t *testing.T) {
+	got, ok := Atom(" p\n(a , X) ")
+	want := rule.Atom{Predicate: "p", Terms: []rule.Term{rule.Name("a"), rule.Variable("X")}}
+	if !ok || !reflect.DeepEqual(got, want) {
+		t.Errorf("Atom = %+v, %v, want %+v", got, ok, want)
+	}
+	if got, ok := Atom("p"); !ok || got.Predicate != "p" || len(got.Terms) != 0 {
+		t.Errorf("Atom = %+v, %v, want p", got, ok)
+	}
+	for _, s := range []string{"", "X", "not p", "p.", "p q", "p(a", "p()", "p(a,b,c,d,e)", "p?"} {
+		if got, ok := Atom(s); ok || got.Predicate != "" || got.Terms != nil {
+			t.Errorf("Atom(%q) = %+v, %v, want nothing", s, got, ok)
+		}
+	}
+}

@@ -33,10 +33,26 @@ type Rule struct {
 	Body []Literal
 }
 
+// Positive has the atoms of the positive literals.
+func (r Rule) Positive() []Atom { return r.atoms(false) }
+
+// Negative has the atoms of the negative literals.
+func (r Rule) Negative() []Atom { return r.atoms(true) }
+
+func (r Rule) atoms(negative bool) []Atom {
+	var atoms []Atom
+	for _, l := range r.Body {
+		if l.Negative == negative {
+			atoms = append(atoms, l.Atom)
+		}
+	}
+	return atoms
+}
+
 // Binds tells whether a variable stands in a positive literal of the rule.
 func (r Rule) Binds(v Variable) bool {
-	for _, l := range r.Body {
-		if !l.Negative && l.Atom.has(v) {
+	for _, a := range r.Positive() {
+		if a.has(v) {
 			return true
 		}
 	}

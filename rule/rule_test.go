@@ -1,6 +1,9 @@
 package rule
 
-import "testing"
+import (
+	"reflect"
+	"testing"
+)
 
 func atom(predicate string, terms ...Term) Atom { return Atom{Predicate: predicate, Terms: terms} }
 
@@ -40,5 +43,28 @@ func TestWrite(t *testing.T) {
 	}
 	if s := Write(nil); s != "" {
 		t.Errorf("Write of no rules = %q", s)
+	}
+}
+
+func TestPositiveAndNegative(t *testing.T) {
+	p, q, r := atom("p", Variable("X")), atom("q"), atom("r", Name("a"))
+	body := []Literal{{Negative: true, Atom: q}, {Atom: p}, {Atom: r}}
+	if got := (Rule{Body: body}).Positive(); !reflect.DeepEqual(got, []Atom{p, r}) {
+		t.Errorf("Positive = %v", got)
+	}
+	if got := (Rule{Body: body}).Negative(); !reflect.DeepEqual(got, []Atom{q}) {
+		t.Errorf("Negative = %v", got)
+	}
+	if r := (Rule{Head: p}); len(r.Positive())+len(r.Negative()) != 0 {
+		t.Error("a fact has literals")
+	}
+}
+
+func TestText(t *testing.T) {
+	if s := atom("p2", Name("a"), Variable("X"), Name("1")).Text(); s != "p2(a,X,1)" {
+		t.Errorf("Text = %q", s)
+	}
+	if s := atom("p").Text(); s != "p" {
+		t.Errorf("Text = %q", s)
 	}
 }

@@ -11,6 +11,13 @@ func Write(rules []Rule) string {
 	return b.String()
 }
 
+// Text writes an atom as it is written in a text.
+func (a Atom) Text() string {
+	var b strings.Builder
+	writeAtom(&b, a)
+	return b.String()
+}
+
 func writeRule(b *strings.Builder, r Rule) {
 	writeAtom(b, r.Head)
 	for i, l := range r.Body {

@@ -96,6 +96,22 @@ func (table Table) raise(r rule.Rule) bool {
 	return head.Stratum > was
 }
 
+// Count tells how many strata there are.
+func (table Table) Count() int {
+	count := 0
+	for _, s := range table {
+		count = max(count, s.Stratum+1)
+	}
+	return count
+}
+
+// Suits tells whether an atom has as many terms as its predicate, if that is in
+// the table.
+func (table Table) Suits(a rule.Atom) bool {
+	s, known := table[a.Predicate]
+	return !known || s.Terms == len(a.Terms)
+}
+
 // List has the table's predicates by rising names.
 func (table Table) List() []api.Stratum {
 	var list []api.Stratum

@@ -56,3 +56,26 @@ func TestOf(t *testing.T) {
 		t.Errorf("List of no rules = %+v", got)
 	}
 }
+
+func TestCount(t *testing.T) {
+	if n := Of(nil).Count(); n != 0 {
+		t.Errorf("Count of no rules = %d", n)
+	}
+	if n := Of(chain([]string{"a", "b"})).Count(); n != 1 {
+		t.Errorf("Count = %d, want 1", n)
+	}
+	if n := Of(chain([]string{"a", "-b"}, []string{"b", "-c"}, []string{"d"})).Count(); n != 3 {
+		t.Errorf("Count = %d, want 3", n)
+	}
+}
+
+func TestSuits(t *testing.T) {
+	one := rule.Atom{Predicate: "p", Terms: []rule.Term{rule.Variable("X")}}
+	table := Of([]rule.Rule{{Head: plain("q"), Body: []rule.Literal{{Atom: one}}}})
+	if !table.Suits(one) || !table.Suits(plain("q")) || !table.Suits(plain("owl")) {
+		t.Error("an atom with the right number of terms does not suit")
+	}
+	if table.Suits(plain("p")) || table.Suits(rule.Atom{Predicate: "q", Terms: one.Terms}) {
+		t.Error("an atom with another number of terms suits")
+	}
+}
