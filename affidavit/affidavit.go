@@ -8,6 +8,8 @@ import (
 	"affidavit/rule"
 	"affidavit/sound"
 	"affidavit/strata"
+	"affidavit/thing"
+	"affidavit/witness"
 )
 
 // Program is a text that was read.
@@ -71,7 +73,35 @@ func readAsked(atom string, limit int, table strata.Table) (rule.Atom, api.Errno
 }
 
 // Explain tells why something follows, or does not (P7).
-func (p *Program) Explain(thing string, limit int) (api.Why, api.Errno) { return api.Why{}, api.OK }
+func (p *Program) Explain(thing string, limit int) (api.Why, api.Errno) {
+	table := strata.Of(p.list())
+	asked, e := readThing(thing, limit, table)
+	if e != api.OK {
+		return api.Why{}, e
+	}
+	known, ok := follow.Of(p.list(), table, limit)
+	if !ok {
+		return api.Why{}, api.ErrLimit
+	}
+	why := api.Why{Verdict: api.Out, Witness: witness.Of(p.list(), table, known, asked).Bytes()}
+	if height, follows := known[asked]; follows {
+		why.Verdict, why.Height = api.In, height
+	}
+	return why, api.OK
+}
+
+// readThing reads what is asked where there may be no variable.
+func readThing(text string, limit int, table strata.Table) (thing.Thing, api.Errno) {
+	asked, e := readAsked(text, limit, table)
+	if e != api.OK {
+		return thing.Thing{}, e
+	}
+	t, ok := thing.Of(asked)
+	if !ok {
+		return thing.Thing{}, api.ErrAsk
+	}
+	return t, api.OK
+}
 
 // Check checks a witness (P8).
 func Check(text string, thing string, witness []byte) int { return 0 }

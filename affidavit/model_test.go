@@ -15,7 +15,7 @@ import (
 // and no matching are in it.
 
 var (
-	names     = []string{"a", "b", "c"}
+	names     = []string{"b", "10", "9"}
 	variables = []string{"X", "Y", "Z"}
 	// the predicates p0 to p5 have these numbers of terms
 	arities = []int{2, 1, 2, 0, 1, 3}
@@ -27,8 +27,9 @@ type roughLiteral struct {
 }
 
 type roughRule struct {
-	head string
-	body []roughLiteral
+	number int
+	head   string
+	body   []roughLiteral
 }
 
 // pick chooses a member of a list.
@@ -117,6 +118,20 @@ func ground(text string) roughRule {
 	return rough
 }
 
+// groundRules writes all rules out; each keeps the number of the rule that it
+// comes from.
+func groundRules(text string) []roughRule {
+	var rules []roughRule
+	for number, line := range slices.Collect(strings.Lines(text)) {
+		for _, s := range writtenOut(line) {
+			rough := ground(s)
+			rough.number = number
+			rules = append(rules, rough)
+		}
+	}
+	return rules
+}
+
 // closure has what follows if just those things are taken not to be so that
 // are not in the guess.
 func closure(rules []roughRule, guess map[string]bool) map[string]bool {
@@ -171,16 +186,7 @@ func matching(model map[string]bool, atom string) string {
 // tryModel asks a program much, and tells how many things follow from it.
 func tryModel(t *testing.T, r *rand.Rand, p *Program, text string) int {
 	t.Helper()
-	var rules []roughRule
-	for _, line := range strings.SplitAfter(text, "\n") {
-		if line == "" {
-			continue
-		}
-		for _, s := range writtenOut(line) {
-			rules = append(rules, ground(s))
-		}
-	}
-	model := modelOf(t, rules)
+	model := modelOf(t, groundRules(text))
 	count := len(model)
 	if count > api.MaxAtoms {
 		wantRefused(t, p, "owl", api.MaxAtoms, api.ErrLimit)
@@ -204,17 +210,23 @@ func tryModel(t *testing.T, r *rand.Rand, p *Program, text string) int {
 	return count
 }
 
+// roughText makes a text of some facts and some rules.
+func roughText(r *rand.Rand) string {
+	text := ""
+	for range r.IntN(5) {
+		text += roughAtom(r, r.IntN(3), names) + ".\n"
+	}
+	for range 4 + r.IntN(12) {
+		text += roughRuleOf(r).text()
+	}
+	return text
+}
+
 func TestQueryAgainstModels(t *testing.T) {
 	r := rand.New(rand.NewPCG(1, 2))
 	tried, negative := 0, 0
 	for range 5000 {
-		text := ""
-		for range r.IntN(5) {
-			text += roughAtom(r, r.IntN(3), names) + ".\n"
-		}
-		for range 4 + r.IntN(12) {
-			text += roughRuleOf(r).text()
-		}
+		text := roughText(r)
 		p, e, _ := Load(text)
 		if e == api.ErrCycle || e == api.ErrLong {
 			continue

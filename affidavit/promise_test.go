@@ -28,6 +28,8 @@ func tryText(t *testing.T, text string) {
 		if len(l) != 0 && e != api.OK || len(l) > limit {
 			t.Fatalf("P6: of %q Query = %q, %d", text, l, e)
 		}
+		tryWhy(t, p, "p", limit)
+		tryWhy(t, p, "p(a)", limit)
 	}
 	printed, strata := p.Print(), p.Strata()
 	if len(printed) > api.MaxText {
@@ -36,6 +38,30 @@ func tryText(t *testing.T, text string) {
 	again := mustLoad(t, printed)
 	if again.Print() != printed || !slices.Equal(again.Strata(), strata) {
 		t.Fatalf("P4: %q loaded again is another program than %q", printed, text)
+	}
+}
+
+// tryWhy explains a thing, and holds the answer against what is so of every one.
+func tryWhy(t *testing.T, p *Program, thing string, limit int) {
+	t.Helper()
+	y, e := p.Explain(thing, limit)
+	list, other := p.Query(thing, limit)
+	if e == api.ErrAsk {
+		wantUnexplained(t, p, thing, limit, api.ErrAsk)
+		return
+	}
+	if e != other {
+		t.Fatalf("P7: Explain(%q, %d) = error %d, Query = error %d", thing, limit, e, other)
+	}
+	if e != api.OK {
+		wantUnexplained(t, p, thing, limit, e)
+		return
+	}
+	if (y.Verdict == api.In) != (len(list) == 1) || (y.Verdict == api.Out) != (len(list) == 0) || (y.Height > 0) != (y.Verdict == api.In) {
+		t.Fatalf("P7: Explain(%q, %d) = %+v, Query = %q", thing, limit, y, list)
+	}
+	if len(y.Witness) < 2 || int(y.Witness[1]) > limit {
+		t.Fatalf("P7: Explain(%q, %d) = %+v", thing, limit, y)
 	}
 }
 
@@ -94,6 +120,8 @@ func TestNoProgram(t *testing.T) {
 	}
 	wantQuery(t, p, "p(X)", 1, "")
 	wantRefused(t, p, "p(", 1, api.ErrAsk)
+	wantWhy(t, p, "p(a)", 1, api.Out, 0, "0 0")
+	wantUnexplained(t, p, "p(X)", 1, api.ErrAsk)
 }
 
 func TestNothingHangsOnCallsBefore(t *testing.T) {
@@ -102,6 +130,7 @@ func TestNothingHangsOnCallsBefore(t *testing.T) {
 	other := mustLoad(t, "edge :- not path. path.")
 	wantQuery(t, other, "path", api.MaxAtoms, "path")
 	wantRefused(t, first, "path(X,Y)", 1, api.ErrLimit)
+	wantUnexplained(t, first, "path(a,b)", 1, api.ErrLimit)
 	wantLoad(t, "far(a,b,c", api.ErrSyntax, 9)
 	wantLoad(t, "far. far(a).", api.ErrArity, 5)
 	other.Print()
@@ -116,6 +145,9 @@ func TestNothingHangsOnCallsBefore(t *testing.T) {
 		wantQuery(t, first, "path(X,Y)", api.MaxAtoms, "path(a,b) path(a,c) path(b,c)")
 		wantQuery(t, first, "far(X)", 6, "far(c)")
 		wantQuery(t, other, "edge", api.MaxAtoms, "")
+		wantIn(t, first, "far(c)", 1, "1 6  0  1  2 0  2 1  3 0 3  4 4")
+		wantOut(t, first, "path(c,a)", "1 5  0  1  2 0  2 1  3 0 3")
+		wantOut(t, other, "edge", "2 1  1")
 		if !slices.Equal(first.Strata(), strata) {
 			t.Fatal("P1: Strata tells other things than before")
 		}
@@ -157,6 +189,27 @@ func TestAnswersAreNewMemory(t *testing.T) {
 	wantQuery(t, p, "path(X,Y)", api.MaxAtoms, want)
 }
 
+func TestWitnessesAreNewMemory(t *testing.T) {
+	p := mustLoad(t, example)
+	for thing, want := range map[string]string{"far(c)": "1 6  0  1  2 0  2 1  3 0 3  4 4", "path(c,a)": "1 5  0  1  2 0  2 1  3 0 3", "owl": "0 0"} {
+		one, _ := p.Explain(thing, api.MaxAtoms)
+		two, _ := p.Explain(thing, api.MaxAtoms)
+		room := one.Witness[:cap(one.Witness)]
+		for i := range room {
+			room[i] = 7
+		}
+		if !slices.Equal(two.Witness, bytesOf(t, want)) {
+			t.Errorf("P2: two witnesses of %q share memory", thing)
+		}
+		room = two.Witness[:cap(two.Witness)]
+		clear(room)
+		again, _ := p.Explain(thing, api.MaxAtoms)
+		if !slices.Equal(again.Witness, bytesOf(t, want)) {
+			t.Errorf("P2: a witness of %q that was handed out is kept", thing)
+		}
+	}
+}
+
 func TestNoQuestionPanics(t *testing.T) {
 	p := mustLoad(t, example)
 	for a := range 256 {
@@ -167,6 +220,7 @@ func TestNoQuestionPanics(t *testing.T) {
 				if e != api.OK && e != api.ErrAsk || e == api.ErrAsk && len(l) != 0 {
 					t.Fatalf("P6: Query(%q) = %q, %d", atom, l, e)
 				}
+				tryWhy(t, p, atom, api.MaxAtoms)
 			}
 		}
 	}

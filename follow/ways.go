@@ -11,9 +11,22 @@ import (
 // literals are all among the things that are said, and its negative ones are
 // not. They come in no order.
 func Ways(r rule.Rule, said map[thing.Thing]int) iter.Seq[thing.Binding] {
+	return waysFrom(thing.Binding{}, r, said)
+}
+
+// WaysTo goes through those of the ways by which the rule's head is a thing.
+func WaysTo(r rule.Rule, head thing.Thing, said map[thing.Thing]int) iter.Seq[thing.Binding] {
+	start, ok := (thing.Binding{}).Match(r.Head, head)
+	if !ok {
+		return func(func(thing.Binding) bool) {}
+	}
+	return waysFrom(start, r, said)
+}
+
+func waysFrom(start thing.Binding, r rule.Rule, said map[thing.Thing]int) iter.Seq[thing.Binding] {
 	return func(yield func(thing.Binding) bool) {
 		s := search{positive: r.Positive(), negative: r.Negative(), said: said, yield: yield}
-		s.from(0, thing.Binding{})
+		s.from(0, start)
 	}
 }
 

@@ -11,6 +11,20 @@ import (
 // equal, and a thing can be the key of a map.
 type Thing [1 + api.MaxTerms]string
 
+// Of has the thing that an atom is; or tells that there is a variable in it.
+func Of(a rule.Atom) (Thing, bool) {
+	t := Thing{a.Predicate}
+	for i, term := range a.Terms {
+		switch term := term.(type) {
+		case rule.Name:
+			t[1+i] = string(term)
+		case rule.Variable:
+			return Thing{}, false
+		}
+	}
+	return t, true
+}
+
 // Text writes a thing as its atom is written in a text.
 func (t Thing) Text() string {
 	a := rule.Atom{Predicate: t[0]}

@@ -76,3 +76,23 @@ func TestMatchGoesOn(t *testing.T) {
 		t.Error("a binding was changed by a match")
 	}
 }
+
+func TestOf(t *testing.T) {
+	a, b := rule.Name("a"), rule.Name("b")
+	for _, c := range []struct {
+		atom rule.Atom
+		want Thing
+		ok   bool
+	}{
+		{atom("p"), Thing{"p"}, true},
+		{atom("p", a, b, b, a), Thing{"p", "a", "b", "b", "a"}, true},
+		{atom("p", rule.Name("X")), Thing{"p", "X"}, true},
+		{atom("p", x), Thing{}, false},
+		{atom("p", a, x), Thing{}, false},
+		{atom("p", x, a), Thing{}, false},
+	} {
+		if got, ok := Of(c.atom); got != c.want || ok != c.ok {
+			t.Errorf("Of(%v) = %v, %v, want %v, %v", c.atom, got, ok, c.want, c.ok)
+		}
+	}
+}
