@@ -48,10 +48,13 @@ func (p *Program) Strata() []api.Stratum { return strata.Of(p.list()).List() }
 
 // Query tells what follows (P6).
 func (p *Program) Query(atom string, limit int) ([]string, api.Errno) {
+	if !mayBeLimit(limit) {
+		return nil, api.ErrArg
+	}
 	table := strata.Of(p.list())
-	asked, e := readAsked(atom, limit, table)
-	if e != api.OK {
-		return nil, e
+	asked, ok := readAsked(atom, table)
+	if !ok {
+		return nil, api.ErrAsk
 	}
 	known, ok := follow.Of(p.list(), table, limit)
 	if !ok {
@@ -60,24 +63,26 @@ func (p *Program) Query(atom string, limit int) ([]string, api.Errno) {
 	return known.Matching(asked), api.OK
 }
 
+func mayBeLimit(limit int) bool { return 1 <= limit && limit <= api.MaxAtoms }
+
 // readAsked reads what is asked of a program with these predicates.
-func readAsked(atom string, limit int, table strata.Table) (rule.Atom, api.Errno) {
-	if limit < 1 || limit > api.MaxAtoms {
-		return rule.Atom{}, api.ErrArg
-	}
-	asked, ok := read.Atom(atom)
+func readAsked(text string, table strata.Table) (rule.Atom, bool) {
+	asked, ok := read.Atom(text)
 	if !ok || !table.Suits(asked) {
-		return rule.Atom{}, api.ErrAsk
+		return rule.Atom{}, false
 	}
-	return asked, api.OK
+	return asked, true
 }
 
 // Explain tells why something follows, or does not (P7).
 func (p *Program) Explain(thing string, limit int) (api.Why, api.Errno) {
+	if !mayBeLimit(limit) {
+		return api.Why{}, api.ErrArg
+	}
 	table := strata.Of(p.list())
-	asked, e := readThing(thing, limit, table)
-	if e != api.OK {
-		return api.Why{}, e
+	asked, ok := readThing(thing, table)
+	if !ok {
+		return api.Why{}, api.ErrAsk
 	}
 	known, ok := follow.Of(p.list(), table, limit)
 	if !ok {
@@ -91,17 +96,29 @@ func (p *Program) Explain(thing string, limit int) (api.Why, api.Errno) {
 }
 
 // readThing reads what is asked where there may be no variable.
-func readThing(text string, limit int, table strata.Table) (thing.Thing, api.Errno) {
-	asked, e := readAsked(text, limit, table)
-	if e != api.OK {
-		return thing.Thing{}, e
-	}
-	t, ok := thing.Of(asked)
+func readThing(text string, table strata.Table) (thing.Thing, bool) {
+	asked, ok := readAsked(text, table)
 	if !ok {
-		return thing.Thing{}, api.ErrAsk
+		return thing.Thing{}, false
 	}
-	return t, api.OK
+	return thing.Of(asked)
 }
 
 // Check checks a witness (P8).
-func Check(text string, thing string, witness []byte) int { return 0 }
+func Check(text string, thing string, witness []byte) int {
+	p, e, _ := Load(text)
+	if e != api.OK {
+		return api.No
+	}
+	return p.shown(thing, witness)
+}
+
+// shown tells what the bytes of a witness show of the thing that is asked.
+func (p *Program) shown(text string, list []byte) int {
+	table := strata.Of(p.list())
+	asked, ok := readThing(text, table)
+	if !ok {
+		return api.No
+	}
+	return witness.Shows(list, p.list(), table, asked)
+}

@@ -21,15 +21,17 @@ func tryText(t *testing.T, text string) {
 		t.Fatalf("P3: Load(%q): error %d, place %d", text, e, at)
 	}
 	if p == nil {
+		wantCheck(t, text, "owl", api.No, "0 0")
 		return
 	}
+	wantCheck(t, text, "owl", api.Out, "0 0")
 	for _, limit := range []int{1, api.MaxAtoms} {
 		l, e := p.Query("p(X)", limit)
 		if len(l) != 0 && e != api.OK || len(l) > limit {
 			t.Fatalf("P6: of %q Query = %q, %d", text, l, e)
 		}
-		tryWhy(t, p, "p", limit)
-		tryWhy(t, p, "p(a)", limit)
+		tryWhy(t, p, text, "p", limit)
+		tryWhy(t, p, text, "p(a)", limit)
 	}
 	printed, strata := p.Print(), p.Strata()
 	if len(printed) > api.MaxText {
@@ -41,13 +43,15 @@ func tryText(t *testing.T, text string) {
 	}
 }
 
-// tryWhy explains a thing, and holds the answer against what is so of every one.
-func tryWhy(t *testing.T, p *Program, thing string, limit int) {
+// tryWhy explains a thing, holds the answer against what is so of every one, and
+// checks it by the program's text.
+func tryWhy(t *testing.T, p *Program, text, thing string, limit int) {
 	t.Helper()
 	y, e := p.Explain(thing, limit)
 	list, other := p.Query(thing, limit)
 	if e == api.ErrAsk {
 		wantUnexplained(t, p, thing, limit, api.ErrAsk)
+		wantCheck(t, text, thing, api.No, "0 0")
 		return
 	}
 	if e != other {
@@ -62,6 +66,9 @@ func tryWhy(t *testing.T, p *Program, thing string, limit int) {
 	}
 	if len(y.Witness) < 2 || int(y.Witness[1]) > limit {
 		t.Fatalf("P7: Explain(%q, %d) = %+v", thing, limit, y)
+	}
+	if v := Check(text, thing, y.Witness); v != y.Verdict {
+		t.Fatalf("P9: Check(%q, %q, %v) = %d, want %d", text, thing, y.Witness, v, y.Verdict)
 	}
 }
 
@@ -148,6 +155,10 @@ func TestNothingHangsOnCallsBefore(t *testing.T) {
 		wantIn(t, first, "far(c)", 1, "1 6  0  1  2 0  2 1  3 0 3  4 4")
 		wantOut(t, first, "path(c,a)", "1 5  0  1  2 0  2 1  3 0 3")
 		wantOut(t, other, "edge", "2 1  1")
+		wantCheck(t, example, "far(c)", api.In, whyFar)
+		wantCheck(t, "edge :- not path. path.", "edge", api.Out, "2 1  1")
+		wantCheck(t, "edge :- not path. path.", "far(c)", api.No, whyFar)
+		wantCheck(t, example, "far(b)", api.Out, whyAll)
 		if !slices.Equal(first.Strata(), strata) {
 			t.Fatal("P1: Strata tells other things than before")
 		}
@@ -220,8 +231,63 @@ func TestNoQuestionPanics(t *testing.T) {
 				if e != api.OK && e != api.ErrAsk || e == api.ErrAsk && len(l) != 0 {
 					t.Fatalf("P6: Query(%q) = %q, %d", atom, l, e)
 				}
-				tryWhy(t, p, atom, api.MaxAtoms)
+				tryWhy(t, p, example, atom, api.MaxAtoms)
 			}
 		}
 	}
+}
+
+// Whatever a byte of a witness is, or a byte more; rows of two; and long rows.
+func TestNoWitnessPanics(t *testing.T) {
+	for _, witness := range []string{whyPath, whyFar, whyAll, whyNone, "0 0"} {
+		list := bytesOf(t, witness)
+		for i := range list {
+			for c := range 256 {
+				changed := slices.Clone(list)
+				changed[i] = byte(c)
+				tryBytes(t, changed)
+				tryBytes(t, slices.Insert(slices.Clone(list), i, byte(c)))
+			}
+		}
+	}
+	some := []byte{0, 1, 2, 3, 4, 5, 6, 49, 50, 51, 127, 128, 254, 255}
+	for _, a := range some {
+		for _, b := range some {
+			tryBytes(t, []byte{a, b})
+			tryBytes(t, []byte{0, 4, 0, 1, 2, 1, a, b})
+		}
+	}
+	for _, n := range []int{3, 52, 258, 100000} {
+		for _, c := range []byte{0, 1, 2, 50, 51, 255} {
+			tryBytes(t, slices.Repeat([]byte{c}, n))
+		}
+	}
+}
+
+// tryBytes checks bytes by the example, and holds the verdicts against what
+// follows from it.
+func tryBytes(t *testing.T, list []byte) {
+	t.Helper()
+	for thing, follows := range map[string]bool{"edge(a,b)": true, "path(a,c)": true, "far(c)": true, "edge(a,c)": false, "path(c,a)": false, "far(b)": false, "owl": false} {
+		v := Check(example, thing, list)
+		if v != api.In && v != api.Out && v != api.No {
+			t.Fatalf("P8: Check(%q, %v) = %d", thing, list, v)
+		}
+		if v == api.In && !follows || v == api.Out && follows {
+			t.Fatalf("P9: Check(%q, %v) = %d", thing, list, v)
+		}
+	}
+}
+
+// Check keeps nothing of the bytes, and answers nothing that could be written into.
+func TestWitnessIsNotKept(t *testing.T) {
+	list := bytesOf(t, whyFar)
+	if v := Check(example, "far(c)", list); v != api.In {
+		t.Errorf("P8: Check = %d", v)
+	}
+	clear(list)
+	if v := Check(example, "far(c)", list); v != api.No {
+		t.Errorf("P1: Check = %d by bytes that are no longer there", v)
+	}
+	wantCheck(t, example, "far(c)", api.In, whyFar)
 }
